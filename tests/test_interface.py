@@ -1,0 +1,54 @@
+"""The names, files and parameters of the interface, as far as it is built."""
+
+import importlib
+import inspect
+import unittest
+
+FUNCTIONS = {
+    "questions": "is_hand(thing) renamed(question,names)",
+    "questiontexts": "question_text(question) question_fault(text) read_question(text) whole_text(text)",
+    "positions": "is_position(question,thing) is_play(question,thing) set_at(question,position) is_won(question,play)"
+    " decider(question,play) certain(question,position)",
+    "policies": "is_policy(question,hand,thing) set_by(question,hand,policy,position) follows(question,hand,policy,position)"
+    " plays_of(question,hand,policy) policies_part(question,hand,policy,other) bare_policy(question,hand,policy)"
+    " thin_policy(question,hand,policy) joined_policy(question,hand,mark,policy,other)",
+    "policyworths": "policy_worth(question,hand,policy,position) both_worth(question,ours,theirs,position)"
+    " reply(question,hand,policy) beaten_play(question,hand,policy)",
+    "worth": "worth_of(question,position) worths(question) right_truths(question,position) rest_of(question,position)"
+    " rests(question,place)",
+    "counting": "counted(question,position) best_policy(question,k)",
+    "forced": "worth_through(question,position) done_there(question,position) two_there(question,position)",
+}
+CLASSES = {
+    "questions": {"Question(marks,wishes,guards)": "marks() wishes() guards() __eq__(other)"},
+}
+
+
+def described(function, skipped=0):
+    """A function's name and parameters."""
+    words = list(inspect.signature(function).parameters)[skipped:]
+    return function.__name__ + "(" + ",".join(words) + ")"
+
+
+class InterfaceTest(unittest.TestCase):
+    def test_functions(self):
+        for file, listed in FUNCTIONS.items():
+            module = importlib.import_module("marksinturn." + file)
+            for one in listed.split():
+                function = getattr(module, one.split("(")[0])
+                self.assertEqual(described(function), one)
+                self.assertEqual(function.__module__, module.__name__)
+
+    def test_classes(self):
+        for file, classes in CLASSES.items():
+            module = importlib.import_module("marksinturn." + file)
+            for head, methods in classes.items():
+                made = getattr(module, head.split("(")[0])
+                self.assertEqual(made.__module__, module.__name__)
+                self.assertEqual(made.__name__ + described(made.__init__, 1)[len("__init__"):], head)
+                for method in methods.split():
+                    self.assertEqual(described(vars(made)[method.split("(")[0]], 1), method)
+
+
+if __name__ == "__main__":
+    unittest.main()
