@@ -59,10 +59,25 @@ def mean_counts(odds, no, yes):
 
 def outer_gains(hand, no, yes, gains):
     """How many gain with each one of No, all of Yes together."""
+    if hand == "they":
+        return lesser_gains(no, yes, gains)
     return {
-        one: sum([more * gains[better_of(hand, one, other)] for other, more in yes.items()])
+        one: sum([more * gains[mean_of(hand, one, other)] for other, more in yes.items()])
         for one in no
     }
+
+
+def lesser_gains(no, yes, gains):
+    """How many gain with each one of No: what is less of Yes as itself, all other of it as that one."""
+    found = {}
+    below = 0
+    left = sum(list(yes.values()))
+    for part in sorted(added_counts(no, yes)):
+        if part in no:
+            found[part] = below + left * gains.get(part, 0)
+        below += yes.get(part, 0) * gains.get(part, 0)
+        left -= yes.get(part, 0)
+    return found
 
 
 def inner_gains(hand, one, yes, gains):

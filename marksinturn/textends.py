@@ -18,7 +18,7 @@ def text_end(reader):
 
 def word_end(reader):
     """The end of a line of which some of the first word is there."""
-    word = [word for word in WORDS[reader.lines] if word.startswith(reader.piece)][0]
+    word = [one for one in WORDS[reader.lines] if one.startswith(reader.piece)][0]
     end = word[len(reader.piece):]
     if word in ("wish", "guard"):
         return end + "\n"
@@ -49,5 +49,5 @@ def number_end(piece, least):
 def literal_end(reader):
     """The end of a line within a literal, or ahead of one that has to come."""
     start = reader.piece[1:] if reader.piece.startswith("!") else reader.piece
-    name = [name for name in reader.marks_left() if name.startswith(start)][0]
+    name = [one for one in reader.marks_left() if one.startswith(start)][0]
     return name[len(start):] + "\n"

@@ -18,9 +18,20 @@ FUNCTIONS = {
     " rests(question,place)",
     "counting": "counted(question,position) best_policy(question,k)",
     "forced": "worth_through(question,position) done_there(question,position) two_there(question,position)",
+    "numberrows": "is_row(question,thing) does_tell(question,row,position)",
+    "numberpapers": "paper_fault(question,thing) is_paper(question,thing) telling(question,paper,position)",
+    "rowmakers": "start_row(question,word,literals) next_row(question,paper,kind,place,how)",
+    "papermerges": "merged(question,papers) hangs_on(question,paper,index) thinned(question,paper,kept) unswallowed(question,paper)",
+    "readingoff": "best_row(question,paper,kind,position) told_at(question,paper,kind,position) read_move(question,paper,position)"
+    " goes_by(question,paper,hand,play) read_policy(question,paper,hand)",
+    "blundering": "blunders(question,paper,play) hints(question,paper,position)",
+    "solving": "bounds_at(question,paper,position) solved(question,position) reached(question,position,number) border(question,depth)",
+    "freerows": "free_fault(question,thing) found_free(question)",
+    "states": "is_lost_state(question,state) is_won_state(question,state)",
 }
 CLASSES = {
     "questions": {"Question(marks,wishes,guards)": "marks() wishes() guards() __eq__(other)"},
+    "searches": {"Search(question,positions)": "go(steps) found() meets() is_done() copy() __eq__(other)"},
 }
 
 

@@ -113,7 +113,8 @@ class LanguageTest(unittest.TestCase):
                 elif isinstance(node, ast.Assign):
                     bound.extend(targets(node))
                     self.assertEqual(len(targets(node)), 1, f"L3 {where}")
-                    self.assertFalse([x for x in ast.walk(node.value) if isinstance(x, (ast.Call, ast.List, ast.Dict))], where)
+                    inner = [x for x in ast.walk(node.value) if x is not node.value]
+                    self.assertFalse([x for x in inner if isinstance(x, (ast.Call, ast.List, ast.Dict))], f"L15 {where}")
                 else:
                     self.assertIsInstance(node, (ast.FunctionDef, ast.ClassDef), f"L3 {where}")
                     self.assertTrue(ast.get_docstring(node), where)
@@ -196,7 +197,7 @@ class LanguageTest(unittest.TestCase):
                         self.assertFalse(words, f"L25 {where}")
                 else:
                     self.assertIsInstance(node.func, ast.Name, f"L7 {where}")
-                    self.assertIn(node.func.id, own | LIBRARY["math"] | LIBRARY["itertools"], f"L8 {where}")
+                    self.assertTrue(node.func.id in own | LIBRARY["math"] | LIBRARY["itertools"], f"L8 {where} {node.func.id}")
 
     def test_classes(self):
         assigned, read, methods = set(), set(), set()
