@@ -15,7 +15,7 @@ def counted(question, position):
     need_position(question, position)
     counts = count_levels(question, position)[0][0]
     whole = whole_of(question)
-    return {fraction_of(part, whole): counts[part] for part in sorted(counts)}
+    return {fraction_of(part, whole): counts[part] for part in sorted(list(counts))}
 
 
 def best_policy(question, k):
@@ -23,7 +23,7 @@ def best_policy(question, k):
     need_question(question)
     levels = count_levels(question, [])
     counts = levels[0][0]
-    value = max(counts)
+    value = max(list(counts))
     if not is_below(k, counts[value]):
         raise BadK(k)
     pick = Pick(question, levels)
@@ -46,7 +46,7 @@ class Pick:
         counted, in order, the one that has the k-th is picked.
         """
         if place == len(self.question.names):
-            return max(self.levels[place][index]), k
+            return list(self.levels[place][index])[0], k
         no = self.levels[place + 1][2 * index]
         yes = self.levels[place + 1][2 * index + 1]
         hand = self.question.hands[place]

@@ -38,7 +38,7 @@ def lesser_counts(no, yes):
     found = {}
     nos = 0
     yeses = 0
-    for part in sorted(added_counts(no, yes), reverse=True):
+    for part in sorted(list(added_counts(no, yes)), reverse=True):
         greater = nos * yeses
         nos += no.get(part, 0)
         yeses += yes.get(part, 0)
@@ -72,7 +72,7 @@ def lesser_gains(no, yes, gains):
     found = {}
     below = 0
     left = sum(list(yes.values()))
-    for part in sorted(added_counts(no, yes)):
+    for part in sorted(list(added_counts(no, yes))):
         if part in no:
             found[part] = below + left * gains.get(part, 0)
         below += yes.get(part, 0) * gains.get(part, 0)

@@ -120,7 +120,7 @@ class TextReader:
         """Take a sign of a literal, or the blank or the end of the line behind it."""
         if sign not in (" ", "\n"):
             self.piece += sign
-            return self.piece == "!" or self.begins_mark_left(bare_name(self.piece))
+            return self.begins_mark_left(bare_name(self.piece))
         name = bare_name(self.piece)
         if not self.stock.has(name) or self.used.has(name):
             return False

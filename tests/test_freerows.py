@@ -145,6 +145,9 @@ class FreeFaultTest(unittest.TestCase):
             self.assertEqual(free_fault(QUESTION, as_lists(paper)), (index, why), row)
         self.assertEqual(free_fault(OTHER, LOST[:4] + [("lost", [], ("join", 3, 2))]), (4, "how"))
         self.assertEqual(free_fault(Question([("x", "we"), ("y", "we")], WISHES, []), WON), (4, "hand"))
+        both = Question([("x", "they"), ("y", "they")], [], [])
+        paper = [("won", [NOT_X, NOT_Y], ("start",)), ("won", [X, Y], ("start",)), ("won", [], ("join", 0, 1))]
+        self.assertEqual(free_fault(both, paper), (2, "how"))
         self.assertEqual(free_fault(QUESTION, []), (0, "form"))
         self.assertEqual(free_fault(QUESTION, ()), (0, "form"))
 

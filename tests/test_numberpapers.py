@@ -292,7 +292,16 @@ class MergesTest(unittest.TestCase):
             self.assertIsNone(paper_fault(question, rows))
 
     def test_unswallowed(self):
-        for _, question, paper in papers(58, 60):
+        self.assertEqual(unswallowed(QUESTION, PAPER), [0, 1, 2, 3, 4, 5])
+        self.assertEqual(unswallowed(QUESTION, PAPER + PAPER), [0, 1, 2, 3, 4, 5])
+        lot = [(question, paper) for _, question, paper in papers(58, 60)]
+        source = random.Random(60)
+        for question in questions(61, 30, most=5, least=3, guards=False):
+            marks = [(name, (source.randint(1, 2), 3)) for name in names_of(question)]
+            question = Question(marks, question.wishes(), [])
+            lot.append((question, made_paper(source, question, 150)))
+            lot.append((question, border(question, 2)[1]))
+        for question, paper in lot:
             expected = [
                 index for index, row in enumerate(paper)
                 if not any(

@@ -194,6 +194,14 @@ class SearchTest(unittest.TestCase):
         one = Question([("a", (1, 3))], [[("a", True)]], [])
         self.check_steps(one, all_positions(one))
         self.check_steps(one, [[]])
+        source = random.Random(88)
+        for question in questions(89, 120, most=4, least=1, guards=False):
+            marks = [(name, (1, 3) if source.random() < 0.8 else by) for name, by in question.marks()]
+            question = Question(marks, question.wishes(), [])
+            every = all_positions(question)
+            source.shuffle(every)
+            self.check_steps(question, every[:source.randint(1, len(every))])
+            self.check_steps(question, every)
         for seed in range(82, 86):
             question = hard(seed, 6, True)
             question = Question(question.marks()[:5], [[one for one in wish if one[0] != "f"][:3] for wish in question.wishes()[:5]], [])
