@@ -1,8 +1,9 @@
 """Free papers judged row by row."""
 
 from marksinturn.certainty import is_lost_code, is_won_code
+from marksinturn.errors import BadFree
 from marksinturn.judging import without_mark
-from marksinturn.literals import are_in_order, code_of, literal_list, turned_code
+from marksinturn.literals import are_in_order, code_of, literal_list, literals_of, turned_code
 from marksinturn.numberrows import is_led_how
 from marksinturn.shapes import is_list, is_tuple_of
 
@@ -119,3 +120,19 @@ def judged_free(question, thing):
         if wrong is not None:
             return right, (index, wrong)
     return right, None
+
+
+def need_free(question, free):
+    """The right rows of a free paper; BadFree is raised for what is none."""
+    right, fault = judged_free(question, free)
+    if fault is not None:
+        raise BadFree(fault[0])
+    return right
+
+
+def told_free_row(question, kind, code, how):
+    """The free row with these things, as it is told."""
+    literals = literals_of(question.names, code)
+    if kind == "lost":
+        literals = [(mark, not truth) for mark, truth in literals]
+    return (kind, literals, tuple(how))

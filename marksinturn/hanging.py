@@ -1,16 +1,21 @@
 """Rows that hang on others, and papers of just some rows."""
 
 
-def needed_rows(rows, kept):
-    """For each row whether it is one of those kept, or one of them hangs on it."""
-    needed = [False] * len(rows)
+def needed_of(named, kept):
+    """For each row, of which it is told which ones it names, whether it is kept, or a kept one hangs on it."""
+    needed = [False] * len(named)
     for index in kept:
         needed[index] = True
-    for index in range(len(rows) - 1, -1, -1):
+    for index in range(len(named) - 1, -1, -1):
         if needed[index]:
-            for other in rows[index][4][1:]:
+            for other in named[index]:
                 needed[other] = True
     return needed
+
+
+def needed_rows(rows, kept):
+    """For each row whether it is one of those kept, or one of them hangs on it."""
+    return needed_of([row[4][1:] for row in rows], kept)
 
 
 def new_places(needed):

@@ -4,11 +4,11 @@ A code is an integer that says of each mark whether No (bit 2 * place) or
 Yes (the bit above it) is meant; so one operation compares whole lots.
 """
 
-from marksinturn.shapes import is_list, is_tuple_of
+from marksinturn.shapes import is_list, is_name, is_tuple_of
 
 
 def literal_list(places, thing):
-    """The literals of a list of such of unlike marks, in its order; None for anything else."""
+    """The literals of a list of such of unlike marks that have places, in its order; None for anything else."""
     if not is_list(thing):
         return None
     found = []
@@ -24,6 +24,14 @@ def literal_list(places, thing):
         seen.add(mark)
         found.append((mark, truth))
     return found
+
+
+def name_literals(thing):
+    """The literals of a list of such of unlike marks of any names, in its order; None for anything else."""
+    if not is_list(thing):
+        return None
+    names = {one[0]: True for one in thing if is_tuple_of(one, 2) and is_name(one[0])}
+    return literal_list(names, thing)
 
 
 def in_marks_order(places, literals):

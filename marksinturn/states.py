@@ -44,3 +44,10 @@ def is_won_state(question, state):
     need_no_chance(question)
     need_state(question, state)
     return is_won_code(question, state_code(state))
+
+
+def is_certain_code(question, kind, code):
+    """Whether a code's literals are lost for certain, of the kind most, or won for certain, of least."""
+    if kind == "most":
+        return is_lost_code(question, code)
+    return is_won_code(question, code)

@@ -4,6 +4,7 @@ Questions are made by chance with a told seed, so each run sees the same.
 """
 
 import random
+from copy import deepcopy
 from fractions import Fraction
 from itertools import product
 
@@ -188,3 +189,28 @@ def does_follow(question, hand, policy, position):
         for place, truth in enumerate(position)
         if hand_at(question, place) == hand
     )
+
+
+def told_alike(case, function, **named):
+    """What a function tells: of lists as of tuples, each time anew, and without changing what was passed."""
+    before = deepcopy(named)
+    told = function(**named)
+    case.assertTrue(same(named, before))
+    for shape in (as_lists, as_tuples):
+        case.assertTrue(same(function(*[shape(one) for one in named.values()]), told))
+    kept = deepcopy(told)
+    spoil(told)
+    again = function(**named)
+    case.assertTrue(same(again, kept), (again, kept))
+    return again
+
+
+def raised(case, error, ask, *passed, **keeps):
+    """A call raises just this error, and it keeps just these very objects."""
+    with case.assertRaises(error) as caught:
+        ask(*passed)
+    case.assertIs(type(caught.exception), error)
+    case.assertEqual(set(vars(caught.exception)), set(keeps))
+    for word, thing in keeps.items():
+        kept = getattr(caught.exception, word)
+        case.assertTrue(kept is thing or (type(kept) is int and kept == thing), (word, kept, thing))

@@ -27,6 +27,16 @@ FUNCTIONS = {
     "blundering": "blunders(question,paper,play) hints(question,paper,position)",
     "solving": "bounds_at(question,paper,position) solved(question,position) reached(question,position,number) border(question,depth)",
     "freerows": "free_fault(question,thing) found_free(question)",
+    "freeplays": "first_truth(question,free,position) first_policy(question,free)",
+    "freeplaces": "freed(question,paper,index) placed(question,free)",
+    "surerows": "sure_fault(question,hand,policy,thing) sure_rows(question,hand,policy)",
+    "trees": "is_tree(question,kind,thing) tree_state(question,kind,tree) tree_price(question,kind,prices,tree)",
+    "cheapest": "cheapest_tree(question,kind,prices) cheapest_price(question,kind,prices)"
+    " greatest_table(question,kind,prices,limit) table_fault(question,kind,prices,thing)",
+    "operations": "keeps(operation,clause) unkept(operation,clause) classes_of(question)",
+    "fewplays": "few_rows(question,operation) few_paper(question,operation) is_few(question,operation,thing)",
+    "fewpolicies": "play_by(question,operation,few,truths) few_policy(question,operation,few)",
+    "lostpapers": "lost_paper(question,operation) is_lost_paper(question,operation,thing)",
     "states": "is_lost_state(question,state) is_won_state(question,state)",
 }
 CLASSES = {

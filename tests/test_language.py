@@ -17,7 +17,12 @@ CALLED = set(
     "len range enumerate zip min max sum abs sorted reversed int str bool list tuple dict set isinstance ord repr any all divmod".split()
 )
 ERRORS = {"ValueError", "KeyError", "IndexError", "TypeError"}
-LIBRARY = {"math": {"gcd", "lcm", "isqrt", "comb", "perm", "factorial"}, "itertools": {"product", "combinations", "permutations"}}
+LIBRARY = {
+    "math": {"gcd", "lcm", "isqrt", "comb", "perm", "factorial"},
+    "itertools": {"product", "combinations", "permutations"},
+    "heapq": {"heappush", "heappop", "heapify", "heapreplace", "heappushpop"},
+}
+TAKEN = {name for names in LIBRARY.values() for name in names}
 METHODS = set(
     "append clear copy count endswith extend find get index insert isalnum isalpha isdigit islower isspace isupper items join keys"
     " ljust lower lstrip partition pop remove replace reverse rfind rjust rpartition rsplit rstrip setdefault split splitlines"
@@ -197,7 +202,7 @@ class LanguageTest(unittest.TestCase):
                         self.assertFalse(words, f"L25 {where}")
                 else:
                     self.assertIsInstance(node.func, ast.Name, f"L7 {where}")
-                    self.assertTrue(node.func.id in own | LIBRARY["math"] | LIBRARY["itertools"], f"L8 {where} {node.func.id}")
+                    self.assertTrue(node.func.id in own | TAKEN, f"L8 {where} {node.func.id}")
 
     def test_classes(self):
         assigned, read, methods = set(), set(), set()
