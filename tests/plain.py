@@ -10,6 +10,8 @@ from itertools import product
 
 from marksinturn.errors import BadPaper, MarkError
 from marksinturn.questions import Question
+from marksinturn.refusals import BadLot
+from marksinturn.teams import Team
 
 NAMES = ("a", "b", "c", "d", "e", "f", "g", "h", "i", "j", "k", "l", "m", "n")
 
@@ -33,7 +35,7 @@ def any_objects():
         [("a", "we")], [[], True], [([], True)], ("most", 0, [], (1, 1), ("any",)), [("most", 0, [], (1, 1), ("any",))],
         {}, {"a": []}, {"a": [([], True)]}, {1: 2, None: 3, (1, "x"): []}, a_function, nested(50),
         Question([], [], []), Question([("a", "we")], [[("a", True)]], []), MarkError(), BadPaper(3), [MarkError()],
-        [Question([], [], [])], ["lost"], ("lost", [], ("start",)), [("lost", [], ("start",))], "ab", ["a", "b"], (None, None),
+        [Question([], [], [])], Team([], []), Team(["u"], [("a", ["u"])]), BadLot([1]), ["lost"], ("lost", [], ("start",)), [("lost", [], ("start",))], "ab", ["a", "b"], (None, None),
     ]
 
 

@@ -37,10 +37,22 @@ FUNCTIONS = {
     "fewplays": "few_rows(question,operation) few_paper(question,operation) is_few(question,operation,thing)",
     "fewpolicies": "play_by(question,operation,few,truths) few_policy(question,operation,few)",
     "lostpapers": "lost_paper(question,operation) is_lost_paper(question,operation,thing)",
+    "marksums": "sum_clauses(one) neat_sums(marks,sums) neat_lots(marks,sums) sums_value(marks,sums)",
+    "sumplays": "sums_played(marks,sums) sums_lot(marks,sums) is_sums_lot(marks,sums,thing) answer_function(one)",
+    "teamsums": "team_answers(team,sums) team_lot(team,sums) is_team_answers(team,sums,thing) is_team_lot(team,sums,thing)"
+    " must_see(team,sums,mark) answers_count(team,sums)",
+    "sumrounds": "sums_for_ever(game,sums)",
+    "teams": "is_team_policy(team,thing) team_sets(team,policy,setting) team_fails(team,clauses,policy)",
+    "copies": "copied(team,clauses,setting) copies_of(team) is_team_paper(team,clauses,thing) lot_of(paper) beats(team,clauses,lot)"
+    " thin_lot(team,clauses,order)",
+    "teamsolving": "team_solved(team,clauses) team_count(team,clauses) forced_copies(team,clauses) in_line(team,clauses) team_of(question)",
+    "vectors": "vector_of(question) moved(question,vector) exchanged(question,place)",
+    "games": "is_game(thing) unrolled(game,many) round_question(game,lot)",
     "states": "is_lost_state(question,state) is_won_state(question,state)",
 }
 CLASSES = {
     "questions": {"Question(marks,wishes,guards)": "marks() wishes() guards() __eq__(other)"},
+    "teams": {"Team(theirs,ours)": "theirs() ours() __eq__(other)"},
     "searches": {"Search(question,positions)": "go(steps) found() meets() is_done() copy() __eq__(other)"},
 }
 
