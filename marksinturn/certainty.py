@@ -13,3 +13,10 @@ def is_won_code(question, code):
     if not all([turn & ~code for turn in question.guard_turns]):
         return True
     return all([wish & code for wish in question.wish_codes])
+
+
+def is_certain_code(question, kind, code):
+    """Whether a code's literals are lost for certain, of the kind most, or won for certain, of least."""
+    if kind == "most":
+        return is_lost_code(question, code)
+    return is_won_code(question, code)

@@ -1,13 +1,14 @@
 """The cheapest trees, and the tables that show that none are cheaper."""
 
 from marksinturn.bestrows import need_kind
+from marksinturn.certainty import is_certain_code
 from marksinturn.chancefree import need_no_chance
 from marksinturn.errors import BadLimit
 from marksinturn.judging import dropping_hand, without_mark
-from marksinturn.leastprices import LeastPrices, all_states
+from marksinturn.leastprices import LeastPrices
 from marksinturn.shapes import is_count
-from marksinturn.states import is_certain_code, is_state, state_code
-from marksinturn.trees import leaf_price, marks_behind, need_prices, told_state
+from marksinturn.states import all_states, is_state, state_code, told_state
+from marksinturn.trees import leaf_price, marks_behind, need_prices
 
 
 def need_priced(question, kind, prices):
@@ -69,13 +70,13 @@ class TableJudging:
         self.behind = [marks_behind(question, place) for place in range(len(question.names))]
         self.table = table
 
-    def number(self, code):
+    def number_at(self, code):
         """The number of the state with a code."""
         return self.table[told_state(self.question, code)]
 
     def is_too_great(self, code):
         """Whether the number of the state with a code is greater than the others allow."""
-        number = self.number(code)
+        number = self.number_at(code)
         if is_certain_code(self.question, self.kind, code):
             if number > leaf_price(self.question, self.kind, self.prices, code):
                 return True
@@ -84,8 +85,8 @@ class TableJudging:
     def bound(self, code, place):
         """The greatest number that a state may have, as far as the mark at a place tells."""
         if code >> (2 * place) & 3:
-            return self.number(without_mark(code, place))
+            return self.number_at(without_mark(code, place))
         bits = (1 << (2 * place), 2 << (2 * place))
         if self.question.hands[place] == self.dropping:
-            return min([self.number(code & ~self.behind[place] | bit) for bit in bits])
-        return sum([self.number(code | bit) for bit in bits])
+            return min([self.number_at(code & ~self.behind[place] | bit) for bit in bits])
+        return sum([self.number_at(code | bit) for bit in bits])

@@ -15,7 +15,7 @@ class Solving:
     def __init__(self, many, codes):
         self.rows = []
         self.hows = []
-        self.known = {}
+        self.indexes = {}
         self.occurs = [[] for _ in range(2 * many)]
         self.against = 0
         self.held = 0
@@ -35,11 +35,11 @@ class Solving:
 
     def lay(self, code, how):
         """The index of the row with this code, laid behind the others if there is none."""
-        if code not in self.known:
-            self.known[code] = len(self.rows)
+        if code not in self.indexes:
+            self.indexes[code] = len(self.rows)
             self.rows.append(code)
             self.hows.append(how)
-        return self.known[code]
+        return self.indexes[code]
 
     def watch(self, index):
         """Let a row force its last open literal, from now on."""
@@ -106,7 +106,8 @@ class Solving:
     def told_by(self, index):
         """The index of the row that a row which is against leads to, with one literal of the last trial alone."""
         here = 0
-        for bit in self.trail[self.starts[-1]:] if self.starts else []:
+        start = self.starts[-1] if self.starts else len(self.trail)
+        for bit in self.trail[start:]:
             here |= 1 << (bit ^ 1)
         for bit in self.trail[::-1]:
             code = self.rows[index]

@@ -73,7 +73,7 @@ def copied_code(found, setting, index):
     if len(setting) != len(found.team.their_names) or not is_below(index, len(found.clauses)):
         return None
     literals = found.copied(setting, found.clauses[index])
-    return None if literals is None else found.code(literals)
+    return None if literals is None else found.coded(literals)
 
 
 def joined_row_code(found, codes, row):

@@ -9,7 +9,7 @@ def forced_steps(few):
     forcing = few.operation == "both"
     copies = {}
     steps = []
-    waiting = few.clauses()
+    waiting = few.all_clauses()
     is_new = True
     while is_new:
         is_new = False
@@ -44,7 +44,7 @@ def needed_steps(few, steps):
     needed = set()
     kept = []
     for row, wish in steps[::-1]:
-        clause = few.clause(row, wish)
+        clause = few.clause_at(row, wish)
         heads = [copy for copy, truth in clause if truth == (few.operation == "both")]
         if not heads or heads[0] in needed:
             kept.append((row, wish))
@@ -56,7 +56,7 @@ def needed_steps(few, steps):
 def edges_of(few):
     """For each literal of a copy the pairs of a step and the literal to which it leads, by clauses of two at most."""
     edges = {}
-    for step, clause in few.clauses():
+    for step, clause in few.all_clauses():
         for at, (copy, truth) in enumerate(clause):
             led = clause[1 - at] if len(clause) == 2 else clause[0]
             edges.setdefault((copy, not truth), []).append((step, led))

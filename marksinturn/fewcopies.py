@@ -37,12 +37,12 @@ class FewCopies:
         heads = [other[:many] for other in self.rows]
         return (self.question.names[place], heads.index(heads[row][:many]))
 
-    def copies(self):
+    def all_copies(self):
         """All copies, mark by mark."""
         found = {self.copy_at(row, place): True for place in self.our_places for row in range(len(self.rows))}
         return list(found)
 
-    def clause(self, row, wish):
+    def clause_at(self, row, wish):
         """The literals of copies of a wish behind a row; None if a literal of theirs holds there."""
         found = []
         for mark, truth in self.question.wish_lists[wish]:
@@ -53,12 +53,12 @@ class FewCopies:
                 return None
         return found
 
-    def clauses(self):
+    def all_clauses(self):
         """The pairs of a step and its literals of copies, of all steps, in order."""
         found = []
         for row in range(len(self.rows)):
             for wish in range(len(self.question.wish_lists)):
-                clause = self.clause(row, wish)
+                clause = self.clause_at(row, wish)
                 if clause is not None:
                     found.append(((row, wish), clause))
         return found

@@ -24,7 +24,7 @@ def few_paper(question, operation):
         truths = None if lost_ways(few) is not None else chosen_truths(few)
     else:
         forced, steps = forced_steps(few)
-        truths = {copy: forced.get(copy, operation != "both") for copy in few.copies()} if steps is None else None
+        truths = {copy: forced.get(copy, operation != "both") for copy in few.all_copies()} if steps is None else None
     return None if truths is None else few.plays(truths)
 
 
@@ -36,7 +36,7 @@ def chosen_truths(few):
     """
     edges = edges_of(few)
     truths = {}
-    for copy in few.copies():
+    for copy in few.all_copies():
         if copy not in truths:
             ways = ways_from(edges, (copy, False))
             if (copy, True) in ways:

@@ -7,17 +7,10 @@ told for good.
 
 from heapq import heappop, heappush
 
+from marksinturn.certainty import is_certain_code
 from marksinturn.judging import dropping_hand, without_mark
-from marksinturn.states import is_certain_code, state_code
+from marksinturn.states import all_states, state_code
 from marksinturn.trees import leaf_price, marks_behind, set_apart_code
-
-
-def all_states(question):
-    """All states of a question, as Python compares strings."""
-    found = [""]
-    for _ in question.names:
-        found = [state + sign for state in found for sign in "-01"]
-    return found
 
 
 class LeastPrices:

@@ -18,11 +18,11 @@ def lost_paper(question, operation):
 
 def lost_ways(few):
     """A step without literals of copies, or a copy with ways from each of its truths to the other; None else."""
-    for step, clause in few.clauses():
+    for step, clause in few.all_clauses():
         if not clause:
             return [step]
     edges = edges_of(few)
-    for copy in few.copies():
+    for copy in few.all_copies():
         there = way_to(ways_from(edges, (copy, True)), (copy, False))
         if there is not None:
             back = way_to(ways_from(edges, (copy, False)), (copy, True))
@@ -51,7 +51,7 @@ def clause_of_step(few, thing):
     row, wish = thing
     if not is_below(row, len(few.rows)) or not is_below(wish, len(few.question.wish_lists)):
         return None
-    return few.clause(row, wish)
+    return few.clause_at(row, wish)
 
 
 def are_forcing_steps(few, steps):

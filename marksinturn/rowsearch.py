@@ -125,7 +125,7 @@ class Proof:
             return None
         return search.lay(self.kind, search.length, code, part, (words[0],))
 
-    def side(self, truth, place, index, here, target, live):
+    def side_row(self, truth, place, index, here, target, live):
         """A row that tells enough where the mark at a place is set to a truth."""
         rows = not_barred(live, truth_bit(place, not truth))
         return self.prove(place + 1, 2 * index + int(truth), here | truth_bit(place, truth), target, rows)
@@ -134,7 +134,7 @@ class Proof:
         """A row ahead of a mark whose hand sets it to the side that tells enough."""
         level = self.search.levels[place + 1]
         truth = not self.is_enough(level[2 * index], target)
-        row = self.side(truth, place, index, here, target, live)
+        row = self.side_row(truth, place, index, here, target, live)
         if not row.code >> (2 * place):
             return row
         return self.search.lay(self.kind, place, without_mark(row.code, place), row.part, ("drop", row.index))
@@ -144,12 +144,12 @@ class Proof:
         hand = self.hands[place]
         since = len(self.search.rows)
         aim = target if isinstance(hand, str) else self.search.levels[place + 1][2 * index]
-        no = self.side(False, place, index, here, aim, live)
+        no = self.side_row(False, place, index, here, aim, live)
         if not no.code >> (2 * place) and self.is_enough(no.part, target):
             return no
         if not isinstance(hand, str):
             aim = self.lacking(hand, no.part, target)
-        yes = self.side(True, place, index, here, aim, live + self.search.rows[since:])
+        yes = self.side_row(True, place, index, here, aim, live + self.search.rows[since:])
         if not yes.code >> (2 * place) and self.is_enough(yes.part, target):
             return yes
         code = joined_code(no.code, yes.code, place)

@@ -5,16 +5,17 @@ from marksinturn.chancefree import need_no_chance
 from marksinturn.errors import BadState
 from marksinturn.literals import truth_bit
 
-NO = "0"
-YES = "1"
+# Open, No, Yes: so states come in the order in which Python compares strings.
+SIGNS = "-01"
 OPEN = "-"
+YES = "1"
 
 
 def is_state(question, thing):
     """Whether an object is a state of the question."""
     if not isinstance(thing, str) or len(thing) != len(question.names):
         return False
-    return all([sign in (NO, YES, OPEN) for sign in thing])
+    return all([sign in SIGNS for sign in thing])
 
 
 def need_state(question, state):
@@ -32,6 +33,19 @@ def state_code(state):
     return code
 
 
+def told_state(question, code):
+    """The state that sets what a code does."""
+    return "".join([SIGNS[code >> (2 * place) & 3] for place in range(len(question.names))])
+
+
+def all_states(question):
+    """All states of a question, as Python compares strings."""
+    found = [""]
+    for _ in question.names:
+        found = [state + sign for state in found for sign in SIGNS]
+    return found
+
+
 def is_lost_state(question, state):
     """Whether some wish has all its literals against, and each guard one that holds."""
     need_no_chance(question)
@@ -44,10 +58,3 @@ def is_won_state(question, state):
     need_no_chance(question)
     need_state(question, state)
     return is_won_code(question, state_code(state))
-
-
-def is_certain_code(question, kind, code):
-    """Whether a code's literals are lost for certain, of the kind most, or won for certain, of least."""
-    if kind == "most":
-        return is_lost_code(question, code)
-    return is_won_code(question, code)

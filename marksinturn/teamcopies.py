@@ -40,7 +40,7 @@ class TeamCopies:
                 return None
         return [(self.copy_at(index, setting), truths[index]) for index in sorted(truths)]
 
-    def code(self, literals):
+    def coded(self, literals):
         """The code of literals of copies."""
         return sum([truth_bit(self.places[copy], truth) for copy, truth in literals])
 
@@ -51,7 +51,7 @@ class TeamCopies:
             for index, clause in enumerate(self.clauses):
                 literals = self.copied(setting, clause)
                 if literals is not None:
-                    found.append((setting, index, self.code(literals)))
+                    found.append((setting, index, self.coded(literals)))
         return found
 
     def solving(self, codes):

@@ -1,14 +1,12 @@
 """Trees of rows, whose leaves are lost states, or won ones, and what they cost."""
 
 from marksinturn.bestrows import need_kind
+from marksinturn.certainty import is_certain_code
 from marksinturn.chancefree import need_no_chance
 from marksinturn.errors import BadPrices, BadTree
 from marksinturn.judging import dropping_hand, without_mark
 from marksinturn.shapes import is_integer, is_list
-from marksinturn.states import OPEN, is_certain_code, is_state, state_code
-
-SIGNS = (OPEN, "0", "1")
-
+from marksinturn.states import is_state, state_code, told_state
 
 def is_tree(question, kind, thing):
     """Whether an object is a tree of the kind."""
@@ -50,11 +48,6 @@ def need_prices(question, prices):
             raise BadPrices(index)
     if len(prices) != len(question.wish_codes):
         raise BadPrices(len(question.wish_codes))
-
-
-def told_state(question, code):
-    """The state that sets what a code does."""
-    return "".join([SIGNS[code >> (2 * place) & 3] for place in range(len(question.names))])
 
 
 def leaf_price(question, kind, prices, code):
