@@ -41,7 +41,7 @@ class TeamSums:
         return neat_rows(codes)
 
     def all_rows(self):
-        """For each mark of theirs, and last for the truths, the pair of its bit and of the neat rows for it."""
+        """For each mark of theirs, and last for the truths: its bit, the neat rows for it, and how many may take it."""
         found = []
         for place in range(self.their_many):
             seers = [taker for taker, seen in enumerate(self.team.seen_places) if place in seen]
