@@ -8,14 +8,14 @@ from marksinturn.judging import dropping_hand, without_mark
 from marksinturn.leastprices import LeastPrices
 from marksinturn.shapes import is_count
 from marksinturn.states import all_states, is_state, state_code, told_state
-from marksinturn.trees import leaf_price, marks_behind, need_prices
+from marksinturn.trees import LOWEST_PRICE, leaf_price, marks_behind, need_prices
 
 
 def need_priced(question, kind, prices):
     """Raise what is due of a question without chance, a kind, and the prices of its wishes."""
     need_no_chance(question)
     need_kind(kind)
-    need_prices(question, prices)
+    need_prices(question, prices, LOWEST_PRICE)
 
 
 def cheapest_tree(question, kind, prices):

@@ -1,6 +1,19 @@
 """Policies made of what is chosen, position by position."""
 
 from marksinturn.literals import literals_of
+from marksinturn.tables import marks_by
+
+
+def best_choices(question, hand, levels):
+    """The policy of a hand that goes, everywhere, to the side that is worth more to it by the levels of parts."""
+    sign = 1 if hand == "we" else -1
+    found = {}
+    for place in marks_by(question, hand):
+        nos = levels[place + 1][0::2]
+        yeses = levels[place + 1][1::2]
+        table = [sign * yes > sign * no for no, yes in zip(nos, yeses)]
+        found[question.names[place]] = pairs_of_table(question.names[:place], table)
+    return found
 
 
 def pairs_of_table(names, table):

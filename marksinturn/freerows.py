@@ -3,7 +3,7 @@
 from marksinturn.chancefree import need_no_chance
 from marksinturn.freejudging import judged_free
 from marksinturn.hanging import rows_kept
-from marksinturn.rowsearch import RowSearch
+from marksinturn.rowsearch import value_search
 
 
 def free_fault(question, thing):
@@ -16,7 +16,7 @@ def free_fault(question, thing):
 def found_free(question):
     """A free paper whose last row has no literals."""
     need_no_chance(question)
-    search = RowSearch(question)
+    search = value_search(question)
     if search.part_at([]) == 0:
         kind, last = "lost", search.settle("most", [], 0)
     else:

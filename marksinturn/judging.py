@@ -42,10 +42,14 @@ class RightRows:
         if wrong is None and number[0] * self.whole != part * number[1]:
             wrong = "number"
         if wrong is None:
-            self.rows.append(row)
-            self.codes.append(code)
-            self.parts.append(part)
+            self.lay(row, code, part)
         return wrong
+
+    def lay(self, row, code, part):
+        """Put a row that is right behind the others."""
+        self.rows.append(row)
+        self.codes.append(code)
+        self.parts.append(part)
 
     def start_part(self, kind, place, word, code):
         """What is wrong with a start row, None if nothing is, and its parts."""

@@ -40,16 +40,22 @@ def plain_row(question, thing):
     if not is_tuple_of(thing, 5):
         return None
     kind, place, lot, number, how = thing
-    if not is_kind(kind) or not is_below(place, len(question.names) + 1):
+    literals = placed_literals(question, place, lot)
+    if not is_kind(kind) or literals is None or not is_fraction(number) or not is_how(how):
+        return None
+    return (kind, place, literals, tuple(number), tuple(how))
+
+
+def placed_literals(question, place, lot):
+    """The literals of a lot, in the marks' order and all ahead of a place; None if either one is not so."""
+    if not is_below(place, len(question.names) + 1):
         return None
     literals = literal_list(question.places, lot)
     if literals is None or not are_in_order(question.places, literals):
         return None
     if literals and question.places[literals[-1][0]] >= place:
         return None
-    if not is_fraction(number) or not is_how(how):
-        return None
-    return (kind, place, literals, tuple(number), tuple(how))
+    return literals
 
 
 def tell_code(question, kind, literals):

@@ -87,7 +87,11 @@ def policies_part(question, hand, policy, other):
 def bare_policy(question, hand, policy):
     """The alike policy that looks at the marks of others alone."""
     need_asked_policy(question, hand, policy)
-    tables = policy_tables(question, hand, policy)
+    return bare_of_tables(question, hand, policy_tables(question, hand, policy))
+
+
+def bare_of_tables(question, hand, tables):
+    """The policy that looks at the marks of others alone, and does what tables tell where they are followed."""
     levels = followed(question, tables)
     found = {}
     for place in marks_by(question, hand):

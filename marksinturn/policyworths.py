@@ -1,12 +1,12 @@
 """What policies are worth, against all that others do."""
 
-from marksinturn.choices import pairs_of_table
+from marksinturn.choices import best_choices
 from marksinturn.functions import need_policy, other_side, policy_tables
 from marksinturn.numbersof import fraction_of, whole_of
 from marksinturn.policies import need_asked_policy
 from marksinturn.positions import need_position
 from marksinturn.questions import need_question
-from marksinturn.tables import followed, marks_by, position_at, won_plays, worth_levels
+from marksinturn.tables import followed, position_at, won_plays, worth_levels
 
 
 def told_worth(question, position, tables):
@@ -37,17 +37,7 @@ def reply(question, hand, policy):
     """A policy of the other hand with which both are worth, everywhere, what the policy is."""
     need_asked_policy(question, hand, policy)
     levels = worth_levels(question, [], policy_tables(question, hand, policy))
-    other = other_side(hand)
-    found = {}
-    for place in marks_by(question, other):
-        nos = levels[place + 1][0::2]
-        yeses = levels[place + 1][1::2]
-        if other == "we":
-            table = [yes > no for no, yes in zip(nos, yeses)]
-        else:
-            table = [yes < no for no, yes in zip(nos, yeses)]
-        found[question.names[place]] = pairs_of_table(question.names[:place], table)
-    return found
+    return best_choices(question, other_side(hand), levels)
 
 
 def beaten_play(question, hand, policy):

@@ -9,7 +9,7 @@ is there tells enough, nothing is laid.
 from marksinturn.judging import dropping_hand, joined_code, told_row, without_mark
 from marksinturn.literals import position_code, truth_bit
 from marksinturn.numbersof import better_of, whole_of
-from marksinturn.startcodes import lost_code, won_code
+from marksinturn.startcodes import StartRows
 from marksinturn.tables import index_of, worth_levels
 
 
@@ -25,14 +25,24 @@ class FoundRow:
         self.how = how
 
 
-class RowSearch:
-    """The rows of a question that were found, both kinds in one list."""
+def value_search(question):
+    """A search for rows that tell what a question's positions are worth."""
+    return RowSearch(question, worth_levels(question, [], {}), StartRows(question))
 
-    def __init__(self, question):
+
+class RowSearch:
+    """The rows of a question that were found, both kinds in one list.
+
+    The levels are the parts that all positions are worth; the starts tell
+    which rows are there from the start, and the least and the most parts.
+    """
+
+    def __init__(self, question, levels, starts):
         self.question = question
         self.length = len(question.names)
         self.whole = whole_of(question)
-        self.levels = worth_levels(question, [], {})
+        self.levels = levels
+        self.starts = starts
         self.rows = []
 
     def part_at(self, position):
@@ -114,16 +124,11 @@ class Proof:
     def started(self, here, target):
         """A start row that is laid and tells enough; None if there is none."""
         search = self.search
-        if self.kind == "most":
-            words, part, idle = ("lost", "any"), 0, search.whole
-        else:
-            words, part, idle = ("won", "none"), search.whole, 0
-        if self.is_enough(idle, target):
-            return search.lay(self.kind, search.length, 0, idle, (words[1],))
-        code = lost_code(search.question, here) if self.kind == "most" else won_code(search.question, here)
-        if code is None:
+        found = search.starts.most(here, target) if self.kind == "most" else search.starts.least(here, target)
+        if found is None:
             return None
-        return search.lay(self.kind, search.length, code, part, (words[0],))
+        code, part, how = found
+        return search.lay(self.kind, search.length, code, part, how)
 
     def side_row(self, truth, place, index, here, target, live):
         """A row that tells enough where the mark at a place is set to a truth."""
@@ -161,5 +166,5 @@ class Proof:
         p, q = odds
         parts = q * target - (q - p) * part
         if self.kind == "most":
-            return min(self.search.whole, parts // p)
-        return max(0, -(-parts // p))
+            return min(self.search.starts.highest, parts // p)
+        return max(self.search.starts.lowest, -(-parts // p))

@@ -4,7 +4,7 @@ from marksinturn.errors import BadPositions, BadSteps
 from marksinturn.numbersof import fraction_of
 from marksinturn.positions import are_first_truths
 from marksinturn.questions import need_question
-from marksinturn.rowsearch import RowSearch
+from marksinturn.rowsearch import value_search
 from marksinturn.shapes import is_count, is_list
 from marksinturn.tellers import rows_telling
 
@@ -13,7 +13,7 @@ class Plan:
     """All rows that a search will have laid when it is done, in their order."""
 
     def __init__(self, question, positions):
-        self.search = RowSearch(question)
+        self.search = value_search(question)
         for position in positions:
             self.search.settle_both(position)
         self.many = self.rows_until_all_meet(positions)

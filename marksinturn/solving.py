@@ -7,7 +7,7 @@ from marksinturn.judging import need_paper
 from marksinturn.numbersof import fraction_of, is_fraction
 from marksinturn.positions import need_position
 from marksinturn.questions import need_question
-from marksinturn.rowsearch import RowSearch
+from marksinturn.rowsearch import value_search
 from marksinturn.shapes import is_below
 from marksinturn.tables import position_at
 
@@ -30,7 +30,7 @@ def solved(question, position):
     """The pair of a position's value and a paper whose bounds meet at it."""
     need_question(question)
     need_position(question, position)
-    search = RowSearch(question)
+    search = value_search(question)
     kept = search.settle_both(position)
     return (fraction_of(search.part_at(position), search.whole), paper_of(search, kept))
 
@@ -42,7 +42,7 @@ def reached(question, position, number):
     if not is_fraction(number):
         raise BadNumber(number)
     p, q = number
-    search = RowSearch(question)
+    search = value_search(question)
     # The least number of parts that are as much as the number.
     aim = -(-p * search.whole // q)
     if search.part_at(position) < aim:
@@ -57,7 +57,7 @@ def border(question, depth):
     need_question(question)
     if not is_below(depth, len(question.names) + 1):
         raise BadDepth(depth)
-    search = RowSearch(question)
+    search = value_search(question)
     kept = []
     values = {}
     for index, part in enumerate(search.levels[depth]):

@@ -4,6 +4,31 @@ Of what would do, the codes are taken that are the least numbers: their last
 marks stand farthest ahead, so rows made of them tell of most positions.
 """
 
+from marksinturn.numbersof import whole_of
+
+
+class StartRows:
+    """The start rows of a question, of each kind: triples of a code, parts, and how they are made."""
+
+    def __init__(self, question):
+        self.question = question
+        self.lowest = 0
+        self.highest = whole_of(question)
+
+    def most(self, here, target):
+        """A start row that tells where a code is for that it is worth so much at most; None without one."""
+        if target >= self.highest:
+            return 0, self.highest, ("any",)
+        code = lost_code(self.question, here)
+        return None if code is None else (code, 0, ("lost",))
+
+    def least(self, here, target):
+        """A start row that tells where a code is for that it is worth so much at least; None without one."""
+        if target <= 0:
+            return 0, 0, ("none",)
+        code = won_code(self.question, here)
+        return None if code is None else (code, self.highest, ("won",))
+
 
 def lost_code(question, here):
     """A code within another one that is lost for certain; None if there is none."""

@@ -79,12 +79,16 @@ def worth_levels(question, position, tables):
     Tables give, by place, what a policy sets at each index of its length;
     whose marks have none do what is best for them.
     """
+    whole = whole_of(question)
+    return levels_of(question, position, tables, [whole if won else 0 for won in won_plays(question)])
+
+
+def levels_of(question, position, tables, parts):
+    """The same, where each play is worth the parts that stand at its index."""
     start = len(position)
     index = index_of(position)
     span = len(question.names) - start
-    whole = whole_of(question)
-    wins = won_plays(question)[index << span:(index + 1) << span]
-    level = [whole if won else 0 for won in wins]
+    level = parts[index << span:(index + 1) << span]
     levels = [level]
     while span > 0:
         span -= 1

@@ -8,6 +8,9 @@ from marksinturn.judging import dropping_hand, without_mark
 from marksinturn.shapes import is_integer, is_list
 from marksinturn.states import is_state, state_code, told_state
 
+LOWEST_PRICE = 1
+
+
 def is_tree(question, kind, thing):
     """Whether an object is a tree of the kind."""
     need_no_chance(question)
@@ -26,7 +29,7 @@ def tree_price(question, kind, prices, tree):
     """What the leaves of a tree cost together."""
     need_no_chance(question)
     need_kind(kind)
-    need_prices(question, prices)
+    need_prices(question, prices, LOWEST_PRICE)
     need_tree(question, kind, tree)
     return sum([leaf_price(question, kind, prices, code) for code in leaf_codes(tree)])
 
@@ -39,12 +42,12 @@ def need_tree(question, kind, tree):
     return code
 
 
-def need_prices(question, prices):
-    """Raise BadPrices for what is no list of a price from 1 on for each wish."""
+def need_prices(question, prices, lowest):
+    """Raise BadPrices for what is no list of a price, from the lowest one on, for each wish."""
     if not is_list(prices):
         raise BadPrices(0)
     for index, price in enumerate(prices):
-        if not is_integer(price) or price < 1:
+        if not is_integer(price) or price < lowest:
             raise BadPrices(index)
     if len(prices) != len(question.wish_codes):
         raise BadPrices(len(question.wish_codes))

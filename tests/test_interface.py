@@ -47,6 +47,18 @@ FUNCTIONS = {
     " thin_lot(team,clauses,order)",
     "teamsolving": "team_solved(team,clauses) team_count(team,clauses) forced_copies(team,clauses) in_line(team,clauses) team_of(question)",
     "vectors": "vector_of(question) moved(question,vector) exchanged(question,place)",
+    "earliness": "enough(question,number) too_early(question,number) later_worths(question) worth_moved(question,place)",
+    "sightpapers": "sight_paper(question,number) sight_fault(question,number,thing)",
+    "picks": "picked_question(question,family,pick) enough_picks(question,family,goal) short_picks(question,family,goal)"
+    " barring_picks(question,family,goal) meeting_picks(picks,many) thinned_pick(question,family,goal,order)",
+    "pickpapers": "picks_paper(question,family,goal) is_picks_paper(question,family,goal,thing)",
+    "sights": "team_seeing(team,sights) least_sights(team,clauses)",
+    "losses": "loss_of(question,prices,play) least_loss(question,prices,position) policy_loss(question,prices,hand,policy)"
+    " loss_policy(question,prices,hand) spared(question,prices) given_up(question,prices)",
+    "lossrows": "loss_fault(question,prices,thing)",
+    "losspapers": "loss_paper(question,prices) loss_truth(question,prices,losses,kind,position)",
+    "smallersteps": "steps_of(question) stepped(question,step) smaller(question) steps_fault(question,thing)",
+    "ledback": "led_back(question,steps,hand,policy) plain_value(question) plain_policy(question,hand)",
     "games": "is_game(thing) unrolled(game,many) round_question(game,lot)",
     "states": "is_lost_state(question,state) is_won_state(question,state)",
 }
