@@ -125,7 +125,7 @@ def is_order(thing, many):
 
 
 def thinned_pick(question, family, goal, order):
-    """What is left of all things without each, in an order, that those left are enough without; None if all are short."""
+    """What is left of all things without each, in an order, that is not needed; None if all together are short."""
     need_goal(question, family, goal)
     many = len(things_of(question, family))
     if not is_order(order, many):
