@@ -1,4 +1,4 @@
-"""The names, files and parameters of the interface, as far as it is built."""
+"""The names, files and parameters of the interface."""
 
 import importlib
 import inspect
@@ -60,11 +60,26 @@ FUNCTIONS = {
     "smallersteps": "steps_of(question) stepped(question,step) smaller(question) steps_fault(question,thing)",
     "ledback": "led_back(question,steps,hand,policy) plain_value(question) plain_policy(question,hand)",
     "games": "is_game(thing) unrolled(game,many) round_question(game,lot)",
+    "forever": "is_kept(game,thing) kept_for_ever(game) lost_within(game) is_lost_game(game,thing) lost_papers(game)",
+    "gamestates": "states_for(game,many) lot_at(game,states) kept_sides(game) played(game,policy,theirs)",
+    "circuits": "is_circuit(thing) outs_at(circuit,filling,truths) parted_at(circuit,other)",
+    "boxes": "is_filling(circuit,other,thing) filled(circuit,other) is_refusal(circuit,other,thing) refused(circuit,other)"
+    " one_box(circuit,other)",
+    "mending": "unmended(circuit,other,lot) least_mends(circuit,other)",
+    "boxquestions": "box_team(circuit,other) in_order(circuit,other)",
+    "rowtexts": "rows_text(paper) read_rows(text) rows_fault(text)",
+    "policytexts": "policy_text(policy) read_policy_text(text) policy_fault(text)",
+    "playtexts": "play_text(marks,position) read_play(marks,text) play_fault(marks,text) sums_text(sums) read_sums(text)"
+    " sums_fault(text)",
     "states": "is_lost_state(question,state) is_won_state(question,state)",
 }
 CLASSES = {
     "questions": {"Question(marks,wishes,guards)": "marks() wishes() guards() __eq__(other)"},
     "teams": {"Team(theirs,ours)": "theirs() ours() __eq__(other)"},
+    "desks": {
+        "Desk(marks)": "lay(side,clause) take(tag) laid() as_question() keep(paper) kept() bounds(position) settle(position) undo()"
+        " redo() copy() __eq__(other)"
+    },
     "searches": {"Search(question,positions)": "go(steps) found() meets() is_done() copy() __eq__(other)"},
 }
 
