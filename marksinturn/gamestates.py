@@ -21,10 +21,12 @@ class Rounds:
         behind = [len(question.names) - 1 - question.places[name] for name in nexts]
         # The state behind each play of a round.
         self.states = [index_of([play >> at & 1 for at in behind]) for play in range(len(self.are_kept))]
-
-    def all_states(self):
-        """For each state that no round has to be kept from it."""
-        return [True] * (1 << self.many)
+        # For each state whether no round, one round, two rounds .. can be kept from it, until that stays so.
+        self.levels = [[True] * (1 << self.many)]
+        ahead = self.ahead_of(self.levels[0])
+        while ahead != self.levels[-1]:
+            self.levels.append(ahead)
+            ahead = self.ahead_of(ahead)
 
     def ahead_of(self, good):
         """For each state whether a round can be kept from it that ends in a state that is good."""
@@ -35,27 +37,14 @@ class Rounds:
 
     def good_for(self, many):
         """For each state whether so many rounds can be kept from it, of None all that come."""
-        good = self.all_states()
-        rounds = 0
-        while many is None or rounds < many:
-            fewer = self.ahead_of(good)
-            if fewer == good:
-                return good
-            good = fewer
-            rounds += 1
-        return good
+        if many is None or many >= len(self.levels):
+            return self.levels[-1]
+        return self.levels[many]
 
     def lost_within(self):
         """The least number of rounds that cannot be kept from the beginning; None if all can be."""
-        good = self.all_states()
-        rounds = 0
-        while good[self.beginning]:
-            fewer = self.ahead_of(good)
-            if fewer == good:
-                return None
-            good = fewer
-            rounds += 1
-        return rounds
+        lost = [rounds for rounds, good in enumerate(self.levels) if not good[self.beginning]]
+        return min(lost, default=None)
 
 
 def states_for(game, many):

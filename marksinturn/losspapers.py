@@ -41,9 +41,8 @@ def told_loss_row(question, row, places):
         kind = "loses"
         literals = [(mark, not truth) for mark, truth in literals]
     how = row.how
-    if how[0] in ("drop", "join"):
-        how = (how[0], *[places[index] for index in how[1:]])
-    return (kind, row.place, literals, told_loss(question, row.part), how)
+    named = [places[index] for index in led_indexes(how)]
+    return (kind, row.place, literals, told_loss(question, row.part), (how[0], *named) if named else how)
 
 
 def loss_truth(question, prices, losses, kind, position):
