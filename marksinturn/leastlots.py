@@ -33,27 +33,24 @@ def grown(many, is_enough, lot):
 
 
 def meeting_lots(lots):
-    """All least lots that have a thing of each of some lots."""
+    """All least lots that have a thing of each of some lots.
+
+    One that has no thing of the next lot gets one, if none that had such a
+    thing is part of it then. Of two that get one neither is part of the
+    other: the lesser one would have had such a thing.
+    """
     least = [0]
     for lot in lots:
         meeting = [one for one in least if one & lot]
+        found = {one: True for one in meeting}
         for one in least:
             if not one & lot:
                 for index in lot_indexes(lot):
                     more = one | 1 << index
                     if not any([not other & ~more for other in meeting]):
-                        meeting.append(more)
-        least = least_of(meeting)
+                        found[more] = True
+        least = list(found)
     return least
-
-
-def least_of(lots):
-    """Those of some lots that have no other one within."""
-    found = []
-    for lot in sorted(lots):
-        if not any([not one & ~lot for one in found]):
-            found.append(lot)
-    return found
 
 
 def told_lots(lots):

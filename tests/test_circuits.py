@@ -27,7 +27,7 @@ def plain(word):
 TWO = (["a"], [("m", "box", ["a"]), ("n", "box", [])], ["m", "n"])
 SEES_GATE = (["a", "b"], [("o", "not", ["a"]), ("m", "box", ["a", "o"]), ("n", "xor", ["m", "b"])], ["n"])
 NO_CIRCUITS = [
-    (["a"], []), (["a"], [], ["a"], []), ([], [], ["a"]), (["a"], [], []), (["a", "a"], [], ["a"]), (["A"], [], ["A"]), ("a", [], ["a"]), (["a"], [], "a"),
+    ([], [("n", "box", [])], ["n"]), (["a"], [("n", "not", ["a"])], []), (["a"], []), (["a"], [], ["a"], []), ([], [], ["a"]), (["a"], [], []), (["a", "a"], [], ["a"]), (["A"], [], ["A"]), ("a", [], ["a"]), (["a"], [], "a"),
     (["a"], {}, ["a"]), (["a"], None, ["a"]), (["a"], [], ["b"]), (["a"], [], [None]), (["a"], [], [["a"]]), (["a"], [("n", "not", ["n"])], ["a"]),
     (["a"], [("n", "not", ["a", "a"])], ["a"]), (["a"], [("n", "not", [])], ["a"]), (["a"], [("n", "and", ["a"])], ["a"]), (["a"], [("n", "nand", ["a", "a"])], ["a"]),
     (["a"], [("n", "or", ["a", "a", "a"])], ["a"]), (["a"], [("a", "not", ["a"])], ["a"]), (["a"], [("n", "not", ["a"]), ("n", "not", ["a"])], ["a"]),
@@ -254,6 +254,15 @@ class BoxesTest(unittest.TestCase):
             self.assertIs(is_filling(circuit, other, thing), False)
             self.assertIs(is_filling(circuit, other, {"m": thing}), False)
         self.assertIs(is_refusal(circuit, other, right[:2]), False)
+        for word in ("joins", "bar", None, ["join"]):
+            self.assertIs(is_refusal(circuit, other, right[:2] + [(word, 0, 1)]), False)
+        # Two copies stand with unlike truths.
+        two = (["a"], [("m", "box", []), ("n", "box", []), ("o", "xor", ["m", "n"])], ["o"])
+        bars = [("bar", [False], [True, True]), ("bar", [False], [False, False])]
+        one = (["a"], [("n", "not", ["a"])], ["n"])
+        self.assertIs(is_refusal(two, one, bars + [("join", 0, 1)]), False)
+        self.assertIs(is_refusal(two, one, bars + [("bar", [True], [True, False]), ("join", 0, 2)]), False)
+        self.assertIs(is_refusal(two, one, refused(two, one)), True)
         self.assertIs(is_refusal(circuit, other, right + right[:1]), False)
 
     def test_at_the_limits(self):

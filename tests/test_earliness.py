@@ -284,6 +284,11 @@ class SightPaperTest(unittest.TestCase):
         for thing in any_objects() + wrong:
             fault = sight_fault(QUESTION, (1, 1), thing)
             self.assertTrue(same(fault, ("gap", [0, 0]) if as_tuples(thing) == ((), ()) else ("form",)), thing)
+        (_, high), (_, low) = least[0], most[0]
+        for paper in (high + [None], high + low[:1], high + [("most", 4, [], (1, 1), ("any",))], high + [("least", 4, [], (0, 1), ("none",))], low, high[:-1]):
+            self.assertEqual(sight_fault(QUESTION, (1, 1), [[([1, 0], paper)], most]), ("least", 0))
+        for paper in (low + [None], low + [("least", 4, [], (0, 1), ("none",))], low + [("most", 4, [], (1, 1), ("any",))], high, low[:-1]):
+            self.assertEqual(sight_fault(QUESTION, (1, 1), [least, [([0, 2], paper)]]), ("most", 0))
         for paper in any_objects():
             self.assertEqual(sight_fault(QUESTION, (1, 1), [[([1, 0], paper)], most]), ("least", 0))
             self.assertEqual(sight_fault(QUESTION, (1, 1), [least, [most[0], ([0, 2], paper)]]), ("most", 1))

@@ -246,6 +246,13 @@ class ForEverTest(unittest.TestCase):
         self.assertIs(is_kept(GAME, (lot, paper + [("most", 0, [], (1, 1), ("any",))])), False)
         self.assertIs(is_kept(GAME, (lot, paper + [("most", 4, [], (1, 1), ("any",))])), True)
         self.assertIs(is_lost_game(GAME, (1, [], [])), False)
+        for row in (("most", 4, [], (1, 1), ("any",)), ("least", 4, [], (0, 1), ("none",))):
+            self.assertIs(is_kept(GAME, (lot, [row])), False)
+        many, most, least = lost_papers(LOST)
+        for row in (("most", 6, [], (1, 1), ("any",)), ("least", 6, [], (0, 1), ("none",))):
+            self.assertIs(is_lost_game(LOST, (many, [row], least)), False)
+        for row in (("most", 3, [], (1, 1), ("any",)), ("least", 3, [], (0, 1), ("none",))):
+            self.assertIs(is_lost_game(LOST, (many, most, [row])), False)
 
     def test_edges(self):
         self.assertEqual((lost_within(EMPTY), states_for(EMPTY, None), kept_for_ever(EMPTY)[0]), (None, [[]], []))

@@ -328,15 +328,15 @@ class LossRowsTest(unittest.TestCase):
         right = ROWS[0]
         self.assertIsNone(loss_fault(QUESTION, PRICES, [right]))
         wrong = [
-            ("most", *right[1:]), (None, *right[1:]), (right[0], 3, *right[2:]), (right[0], -1, *right[2:]), (right[0], True, *right[2:]),
+            ("most", *right[1:]), (None, *right[1:]), ([], *right[1:]), (["keeps"], *right[1:]), (right[0], 3, *right[2:]), (right[0], -1, *right[2:]), (right[0], True, *right[2:]),
             (right[0], 2, [("y", False), ("x", True)], *right[3:]), (right[0], 1, *right[2:]), (right[0], 2, [("z", True)], *right[3:]),
             (right[0], 2, [("x", 1)], *right[3:]), (right[0], 2, None, *right[3:]), right[:4], (*right, 0),
         ]
-        wrong += [(*right[:3], number, right[4]) for number in [(6, 2), (3, 0), (-3, 1), (3,), None, 3, (0, 2), (True, 1), (3, 1, 1)]]
+        wrong += [(*right[:3], number, right[4]) for number in [(6, 2), (3, 0), (-3, 1), (3,), None, 3, (0, 2), (True, 1), (3, 1, 1), (3, None), (3, True), (3, -1), (1, 0), ("3", 1), ([3], 1)]]
         hows = [
             ("holds",), ("holds", 1), ("holds", [1, 1]), ("holds", [2, 1]), ("holds", [-1]), ("holds", [True]), ("holds", [1], [1]), ("holds", None),
             ("fails", []), ("broken",), ("broken", -1), ("broken", [0]), ("broken", True), ("none", 0), ("lost",), ("any",), ("start",), (),
-            None, "none", ("drop",), ("drop", -1), ("join", 0), ("join", 0, True), (["holds"], [1]), ("drop", 0, 0),
+            None, "none", {0: "none"}, ("none", 0, 0), ("fails", None), ("fails", "ab"), ("fails", [1, 1]), ("lost", [1]), ("any", [1]), ("drop",), ("drop", -1), ("join", 0), ("join", 0, True), (["holds"], [1]), ("drop", 0, 0),
         ]
         wrong += [(*right[:4], how) for how in hows]
         for thing in wrong + any_objects():
@@ -346,6 +346,13 @@ class LossRowsTest(unittest.TestCase):
             if thing in ([], ()):
                 wanted = None
             self.assertTrue(same(loss_fault(question=QUESTION, prices=PRICES, thing=thing), wanted))
+        guarded = Question(QUESTION.marks(), QUESTION.wishes(), [[("y", True)], [("x", False), ("y", True)]])
+        for literals, fault in (([("x", True)], "literals"), ([("x", True), ("y", True)], "literals"), ([("x", True), ("y", False)], None)):
+            self.assertEqual(loss_fault(guarded, PRICES, [("loses", 2, literals, (2, 1), ("fails", [0]))]), fault and (0, fault))
+        broken = [([("y", False)], 0, "literals"), ([("y", True)], 0, None), ([("y", True)], 1, "literals"), ([("x", False), ("y", True)], 1, None), ([("y", True)], 2, "kind")]
+        for literals, index, fault in broken:
+            turned = Question(QUESTION.marks(), [], [[("y", False)], [("x", True), ("y", False)]])
+            self.assertEqual(loss_fault(turned, [], [("keeps", 2, literals, (0, 1), ("broken", index))]), fault and (0, fault))
         self.assertEqual(loss_fault(QUESTION, PRICES, [("keeps", 2, [], (9, 1), ("holds", [0, 1, 2]))]), None)
         self.assertEqual(loss_fault(QUESTION, PRICES, [("keeps", 2, [], (9, 1), ("holds", [0, 1, 2, 3]))]), (0, "kind"))
         self.assertEqual(loss_fault(QUESTION, PRICES, [("loses", 2, [], (0, 1), ("none",))]), None)

@@ -280,6 +280,11 @@ class PicksPaperTest(unittest.TestCase):
         least, short = picks_paper(QUESTION, "wishes", (1, 1))
         wrong = [[least], [least, short, []], {0: least, 1: short}, [least, None], [[[0], [1]], short], [[([0],)], short], [least, [([], None)]]]
         wrong += [[[(pick, least[0][1]), least[1]], short] for pick in ([True], None, "0", [[0]], [0, 0], [5])]
+        high, low = least[0][1], short[0][1]
+        for paper in (high + [None], high + [("most", 2, [], (1, 1), ("any",))], high + [("least", 2, [], (0, 1), ("none",))], low, []):
+            wrong.append([[([0], paper), least[1]], short])
+        for paper in (low + [None], low + [("least", 2, [], (0, 1), ("none",))], low + [("most", 2, [], (1, 1), ("any",))], high, []):
+            wrong.append([least, [([], paper)]])
         for thing in any_objects() + wrong:
             self.assertIs(is_picks_paper(question=QUESTION, family="wishes", goal=(1, 1), thing=thing), False)
         self.assertIs(is_picks_paper(QUESTION, "wishes", (1, 1), (least, short)), True)
