@@ -111,9 +111,9 @@ def meeting_picks(picks, many):
         if not is_lot(thing, many):
             raise BadPicks(index)
     # Things in no pick are never needed, so that many may be great.
-    named = sorted({index for pick in picks for index in pick})
-    places = {index: place for place, index in enumerate(named)}
-    lots = [sum([1 << places[index] for index in pick]) for pick in picks]
+    named = sorted({one for pick in picks for one in pick})
+    places = {one: place for place, one in enumerate(named)}
+    lots = [sum([1 << places[one] for one in pick]) for pick in picks]
     return [[named[place] for place in lot] for lot in told_lots(meeting_lots(lots))]
 
 

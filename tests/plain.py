@@ -8,9 +8,11 @@ from copy import deepcopy
 from fractions import Fraction
 from itertools import product
 
+from marksinturn.desks import Desk
 from marksinturn.errors import BadPaper, MarkError
 from marksinturn.questions import Question
-from marksinturn.refusals import BadLot
+from marksinturn.refusals import BadCircuit, BadLot
+from marksinturn.searches import Search
 from marksinturn.teams import Team
 
 NAMES = ("a", "b", "c", "d", "e", "f", "g", "h", "i", "j", "k", "l", "m", "n")
@@ -36,6 +38,8 @@ def any_objects():
         {}, {"a": []}, {"a": [([], True)]}, {1: 2, None: 3, (1, "x"): []}, a_function, nested(50),
         Question([], [], []), Question([("a", "we")], [[("a", True)]], []), MarkError(), BadPaper(3), [MarkError()],
         [Question([], [], [])], Team([], []), Team(["u"], [("a", ["u"])]), BadLot([1]), ["lost"], ("lost", [], ("start",)), [("lost", [], ("start",))], "ab", ["a", "b"], (None, None),
+        Desk([]), Desk([("a", "we")]), Search(Question([], [], []), []), [Desk([])], BadCircuit(None), ("join", 0, None), ("bar", [True], []), "odd\n", "a :\n",
+        ([("k", True)], [("u", "we")], ["k"]), (["a"], [], None), [([], [])], {"m": [True]},
     ]
 
 
